@@ -1,0 +1,21 @@
+"""What a recipe makes of the numbers of its makings, by its sort."""
+
+from makeyard.errors import NoSort
+
+
+def taken(numbers):
+    if not numbers:
+        return None
+    left = numbers[0] - sum(numbers[1:])
+    # A take can't take more than is there; sum and most have no such bound.
+    return left if left >= 0 else None
+
+
+def worked(sort, numbers):
+    if sort == "sum":
+        return sum(numbers)
+    if sort == "most":
+        return max(numbers, default=None)
+    if sort == "take":
+        return taken(numbers)
+    raise NoSort(f"no sort of a recipe: {sort!r}")
