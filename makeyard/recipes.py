@@ -2,6 +2,13 @@
 
 from makeyard.errors import NoSort
 
+SORTS = ("sum", "most", "take")
+
+
+def check_sort(sort):
+    if sort not in SORTS:
+        raise NoSort(f"no sort of a recipe: {sort!r}")
+
 
 def taken(numbers):
     if not numbers:
@@ -12,10 +19,9 @@ def taken(numbers):
 
 
 def worked(sort, numbers):
+    check_sort(sort)
     if sort == "sum":
         return sum(numbers)
     if sort == "most":
         return max(numbers, default=None)
-    if sort == "take":
-        return taken(numbers)
-    raise NoSort(f"no sort of a recipe: {sort!r}")
+    return taken(numbers)
